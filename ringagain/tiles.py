@@ -8,9 +8,13 @@ TILES = 0
 BOARD = 1
 MANY = 2
 RING = 3
+LEAST = 4
+FOREVER = 5
+USED = 6
+GROW = 7
 
 # how many whole numbers each call has, but for tiles, which has a row with its own count
-NUMBERS_OF_CALL = {1: 2, 2: 2, 3: 1}
+NUMBERS_OF_CALL = {1: 2, 2: 2, 3: 1, 4: 0, 5: 1, 6: 1, 7: 1}
 
 UP = 0
 RIGHT = 1
@@ -24,6 +28,7 @@ LONGEST_SIDE = 4
 MOST_ROUND = 3
 
 WRONG = -1
+NO_TILE = -2
 NONE_THERE = -3
 
 
@@ -68,7 +73,15 @@ def answer_of_call(tiles, kind, numbers):
         return answer_of_board(tiles, numbers[0], numbers[1])
     if kind == MANY:
         return answer_of_many(tiles, numbers[0], numbers[1])
-    return answer_of_ring(tiles, numbers[0])
+    if kind == RING:
+        return answer_of_ring(tiles, numbers[0])
+    if kind == LEAST:
+        return answer_of_least(tiles)
+    if kind == FOREVER:
+        return answer_of_forever(tiles, numbers[0])
+    if kind == USED:
+        return answer_of_used(tiles, numbers[0])
+    return answer_of_grow(tiles, numbers[0])
 
 
 def answer_of_tiles(colours):
@@ -99,7 +112,7 @@ def answer_of_many(tiles, wide, high):
 
 def answer_of_ring(tiles, around):
     """The fewest q, then the tiles of the first tower of q rings that comes again."""
-    if around < 1 or around > MOST_ROUND:
+    if not is_ring_size(around):
         return [WRONG]
     rings = rings_of(tiles, around)
     tower = fewest_tower(tiles, rings)
@@ -109,6 +122,48 @@ def answer_of_ring(tiles, around):
     for ring in tower:
         answer.extend(rings[ring])
     return answer
+
+
+def answer_of_least(tiles):
+    """How many tiles round and how many rings high the tower of the fewest tiles is that comes again."""
+    least = []
+    for around in range(1, MOST_ROUND + 1):
+        high = len(fewest_tower(tiles, rings_of(tiles, around)))
+        if high > 0 and (not least or around * high < least[0] * least[1]):
+            least = [around, high]
+    if not least:
+        return [NONE_THERE]
+    return least
+
+
+def answer_of_forever(tiles, around):
+    """How many rings there are, then how many of them go on for ever."""
+    if not is_ring_size(around):
+        return [WRONG]
+    rings = rings_of(tiles, around)
+    return [len(rings), len(endless_rings(tiles, rings))]
+
+
+def answer_of_used(tiles, around):
+    """How many tiles stand in rings that go on for ever, then these."""
+    if not is_ring_size(around):
+        return [WRONG]
+    used = {}
+    for ring in endless_rings(tiles, rings_of(tiles, around)):
+        for tile in ring:
+            used[tile] = True
+    return [len(used)] + sorted(used)
+
+
+def answer_of_grow(tiles, tile):
+    """The longest side of a square board that has this tile as the first of its lowest row."""
+    if tile >= len(tiles):
+        return [NO_TILE]
+    side = 0
+    # a square holds a smaller one at the same corner, so behind the first that is missing there are no greater ones
+    while side < LONGEST_SIDE and begins_square(tiles, tile, side + 1):
+        side += 1
+    return [side]
 
 
 def are_tiles(colours):
@@ -126,6 +181,11 @@ def tiles_of(colours):
 def is_board_size(wide, high):
     """Whether boards of this size are answered at all."""
     return 1 <= wide <= LONGEST_SIDE and 1 <= high <= LONGEST_SIDE
+
+
+def is_ring_size(around):
+    """Whether rings of so many tiles are answered at all."""
+    return 1 <= around <= MOST_ROUND
 
 
 def fits_right(tiles, tile, before):
@@ -203,6 +263,14 @@ def first_board(tiles, wide, high):
     return board
 
 
+def begins_square(tiles, tile, side):
+    """Whether there's a board so wide and so high with this tile as the first of its lowest row."""
+    rows = rows_of(tiles, side)
+    ups = colours_of(tiles, rows, UP)
+    ways = ways_above(ups, colours_of(tiles, rows, DOWN), side)
+    return any([rows[row][0] == tile and ups[row] in ways[side - 1] for row in range(len(rows))])
+
+
 def fewest_tower(tiles, rings):
     """The places, among the rings, of the first of the fewest towers that come again; none if there's none."""
     ups = colours_of(tiles, rings, UP)
@@ -259,3 +327,22 @@ def steps_up_to(below, goal):
                     further.append(lower)
         reached = further
     return steps
+
+
+def endless_rings(tiles, rings):
+    """Those of the rings that go on for ever.
+
+    A ring with nothing above or nothing below it is taken away, and so on with those left. As each that stays at
+    last has others that stay above and below it, it can be built on for ever both ways.
+    """
+    left = rings
+    taken = True
+    while taken:
+        ups = colours_of(tiles, left, UP)
+        downs = colours_of(tiles, left, DOWN)
+        above = matches(ups, downs)
+        below = matches(downs, ups)
+        staying = [left[ring] for ring in range(len(left)) if above[ring] and below[ring]]
+        taken = len(staying) < len(left)
+        left = staying
+    return left

@@ -19,6 +19,22 @@ def ring(around):
     return [3, around]
 
 
+def least():
+    return [4]
+
+
+def forever(around):
+    return [5, around]
+
+
+def used(around):
+    return [6, around]
+
+
+def grow(tile):
+    return [7, tile]
+
+
 def ask(*calls):
     """Ask these calls as one line and give back a list of answers, one for each."""
     line = [number for call in calls for number in call]
@@ -37,3 +53,8 @@ def ask(*calls):
 
 def flat(rows):
     return [number for row in rows for number in row]
+
+
+def ladder(*steps):
+    """Tiles that all fit to the right of all, with these colours down and up."""
+    return tiles(*flat((up, 0, down, 0) for down, up in steps))

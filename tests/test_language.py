@@ -28,6 +28,14 @@ NOT_WRITTEN = re.compile(r"\b(type|typing|typing_extensions|enum|Enum|IntEnum|St
                          r"|dataclass|overload|contextmanager")
 
 
+KEYWORDS = {"sorted": ("key", "reverse"), "min": ("key", "default"), "max": ("key", "default"), "sum": ("start",),
+            "enumerate": ("start",), "zip": ("strict",)}
+WALKED = ("zip", "enumerate", "reversed", "range")
+WALKED_METHODS = ("items", "keys", "values")
+WALKERS = ("list", "tuple", "dict", "sorted", "sum", "any", "all", "enumerate", "zip", "min", "max")
+CHANGING = "append clear extend insert pop remove reverse setdefault update".split()
+
+
 def texts():
     for name in sorted(os.listdir(PACKAGE)):
         if name != "__pycache__":
@@ -43,6 +51,44 @@ def bound_names(tree):
             yield node.arg
         if isinstance(node, ast.Name) and isinstance(node.ctx, ast.Store):
             yield node.id
+
+
+def parents(tree):
+    """From each part of a file to the part that it stands in."""
+    return {inner: node for node in ast.walk(tree) for inner in ast.iter_child_nodes(node)}
+
+
+def is_called(node, above):
+    return isinstance(above[node], ast.Call) and above[node].func is node
+
+
+def is_walked_at_once(call, above):
+    """Whether what this call gives stands where it is walked on the spot."""
+    around = above[call]
+    if isinstance(around, (ast.For, ast.comprehension)):
+        return around.iter is call
+    return isinstance(around, ast.Call) and isinstance(around.func, ast.Name) and around.func.id in WALKERS
+
+
+def walked_names(loop):
+    """What a loop walks, itself or through enumerate, zip, reversed or items, as it is written."""
+    walked = loop.iter
+    if isinstance(walked, ast.Call):
+        if isinstance(walked.func, ast.Attribute):
+            return [ast.unparse(walked.func.value)]
+        return [] if walked.func.id == "range" else [ast.unparse(one) for one in walked.args]
+    return [ast.unparse(walked)]
+
+
+def changed_names(loop):
+    """What is changed in a loop, as it is written."""
+    for node in ast.walk(loop):
+        if isinstance(node, ast.Subscript) and isinstance(node.ctx, ast.Store):
+            yield ast.unparse(node.value)
+        if isinstance(node, ast.Attribute) and node.attr in CHANGING:
+            yield ast.unparse(node.value)
+        if isinstance(node, ast.AugAssign):
+            yield ast.unparse(node.target)
 
 
 class Files(unittest.TestCase):
@@ -119,6 +165,83 @@ class Code(unittest.TestCase):
                     self.assertIsInstance(node, ast.Expr)
                     self.assertIsInstance(node.value, ast.Constant)
             self.assertEqual(len(tops), len(set(tops)), name)
+
+    def test_parameters_are_plain_and_nothing_is_annotated(self):
+        for name, text in texts():
+            for node in ast.walk(ast.parse(text)):
+                if isinstance(node, ast.FunctionDef):
+                    self.assertEqual(node.args.posonlyargs + node.args.kwonlyargs, [], node.name)
+                    self.assertIsNone(node.returns, node.name)
+                    for default in node.args.defaults:
+                        ast.literal_eval(default)
+                if isinstance(node, ast.arg):
+                    self.assertIsNone(node.annotation, (name, node.arg))
+
+    def test_what_stands_by_itself_is_a_call_or_a_docstring(self):
+        for name, text in texts():
+            for node in ast.walk(ast.parse(text)):
+                if isinstance(node, ast.Expr) and not isinstance(node.value, ast.Call):
+                    self.assertIsInstance(node.value, ast.Constant, (name, node.lineno))
+                    self.assertIsInstance(node.value.value, str, (name, node.lineno))
+
+    def test_python_s_own_are_called_where_they_stand(self):
+        for name, text in texts():
+            tree = ast.parse(text)
+            above = parents(tree)
+            for node in ast.walk(tree):
+                if isinstance(node, ast.Attribute) or isinstance(node, ast.Name) and node.id in BUILT_IN:
+                    self.assertTrue(is_called(node, above), (name, node.lineno))
+                if isinstance(node, ast.Call):
+                    for keyword in node.keywords:
+                        self.assertIsInstance(node.func, ast.Name, (name, node.lineno))
+                        self.assertIn(keyword.arg, KEYWORDS.get(node.func.id, ()), (name, node.lineno))
+
+    def test_what_is_to_be_walked_is_walked_at_once(self):
+        for name, text in texts():
+            tree = ast.parse(text)
+            above = parents(tree)
+            for node in ast.walk(tree):
+                if not isinstance(node, ast.Call):
+                    continue
+                own = isinstance(node.func, ast.Name) and node.func.id in WALKED
+                if own or isinstance(node.func, ast.Attribute) and node.func.attr in WALKED_METHODS:
+                    self.assertTrue(is_walked_at_once(node, above), (name, node.lineno))
+
+    def test_what_a_loop_walks_is_not_changed_in_it(self):
+        for name, text in texts():
+            for node in ast.walk(ast.parse(text)):
+                if isinstance(node, ast.For):
+                    self.assertEqual(set(walked_names(node)) & set(changed_names(node)), set(), (name, node.lineno))
+
+    def test_lists_and_dicts_of_a_file_are_flat_and_only_read(self):
+        for name, text in texts():
+            tree = ast.parse(text)
+            above = parents(tree)
+            kept = [node for node in tree.body if isinstance(node, ast.Assign)]
+            kept = [node for node in kept if isinstance(node.value, (ast.List, ast.Dict))]
+            words = [node.targets[0].id for node in kept]
+            for node in kept:
+                inner = [part for part in ast.walk(node.value) if isinstance(part, (ast.List, ast.Dict))]
+                self.assertEqual(inner, [node.value], (name, node.lineno))
+            for node in ast.walk(tree):
+                if isinstance(node, ast.Name) and node.id in words and isinstance(node.ctx, ast.Load):
+                    self.assertIsInstance(above[node], ast.Subscript, (name, node.lineno))
+                    self.assertIsInstance(above[node].ctx, ast.Load, (name, node.lineno))
+
+    def test_numbers_and_texts(self):
+        for name, text in texts():
+            for node in ast.walk(ast.parse(text)):
+                if isinstance(node, ast.Constant) and isinstance(node.value, str):
+                    self.assertNotIn("%", node.value, (name, node.lineno))
+                if isinstance(node, ast.BinOp) and isinstance(node.op, ast.Pow):
+                    self.assertIn(getattr(node.right, "value", None), range(65), (name, node.lineno))
+
+    def test_no_sets(self):
+        # there are dicts of True in their place, so that nothing hangs on a set's order
+        for name, text in texts():
+            for node in ast.walk(ast.parse(text)):
+                if isinstance(node, ast.Name):
+                    self.assertNotIn(node.id, ("set", "frozenset"), (name, node.lineno))
 
     def test_no_function_calls_itself_in_whatever_many_steps(self):
         # what is as long as its input is gone through by loops

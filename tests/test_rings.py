@@ -5,15 +5,10 @@ import random
 import unittest
 
 import reference
-from lines import ask, flat, many, ring, tiles
+from lines import ask, flat, ladder, many, ring, tiles
 
 HIGHEST = 4294967295
 CHECKERS = ((0, 0, 1, 1), (1, 1, 0, 0))
-
-
-def ladder(*steps):
-    """Tiles that all fit to the right of all, with these colours down and up."""
-    return tiles(*flat((up, 0, down, 0) for down, up in steps))
 
 
 class Answers(unittest.TestCase):
